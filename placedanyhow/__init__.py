@@ -1,0 +1,1 @@
+"""Placedanyhow: communicating processes on any placement."""

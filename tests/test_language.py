@@ -1,0 +1,210 @@
+"""What of ../shared/LANGUAGE.md can be seen in the files of the package."""
+
+import ast
+import os
+import unittest
+
+FOLDER = os.path.join(os.path.dirname(os.path.dirname(os.path.abspath(__file__))), "placedanyhow")
+
+BUILTINS = (
+    "len range enumerate zip min max sum abs sorted reversed int str bool list tuple dict set "
+    "isinstance ord repr any all divmod ValueError super"
+).split()
+METHODS = (
+    "append clear copy count endswith extend find get index insert isalnum isalpha isdigit items "
+    "join keys lower lstrip partition pop remove replace reverse rfind rstrip setdefault split "
+    "splitlines startswith strip update upper values zfill"
+).split()
+# These are barred, or allowed only in forms that are not tested here: who needs one of the latter
+# takes it out of the list and reads its rule.
+BARRED_NODES = (
+    ast.Global, ast.AsyncFunctionDef, ast.AsyncFor, ast.AsyncWith, ast.Await, ast.Set, ast.SetComp,
+    ast.GeneratorExp, ast.Div, ast.Yield, ast.YieldFrom, ast.NamedExpr, ast.Starred, ast.Lambda,
+    ast.Nonlocal, ast.With, ast.Match, ast.Try,
+)
+BARRED_WORDS = (
+    "register mro elements open input law version_info attrgetter builtins compile dir eval exec "
+    "exit gc getattr globals hasattr help id importlib locals os quit setattr type vars sys hash "
+    "next iter map format bytes chr"
+).split()
+
+
+def package_files():
+    return sorted(name for name in os.listdir(FOLDER) if name != "__pycache__")
+
+
+def read(name):
+    with open(os.path.join(FOLDER, name), encoding="utf-8") as file:
+        return file.read()
+
+
+def trees():
+    return [(name, ast.parse(read(name))) for name in package_files()]
+
+
+def is_plain(node, functions):
+    """Whether the value of a module-level name is a literal, also with functions defined above."""
+    if isinstance(node, ast.Constant):
+        return True
+    if isinstance(node, (ast.Tuple, ast.List)):
+        return all(is_plain(part, functions) for part in node.elts)
+    if isinstance(node, ast.Dict):
+        return all(is_plain(part, functions) for part in node.keys + node.values)
+    return isinstance(node, ast.Name) and node.id in functions
+
+
+class LanguageTest(unittest.TestCase):
+    def test_files(self):
+        self.assertIn("__init__.py", package_files())
+        for name in package_files():
+            self.assertRegex(name, r"\A[a-z_][a-z0-9_]*\.py\Z")
+
+    def test_characters_and_sizes(self):
+        for name in package_files():
+            text = read(name)
+            self.assertTrue(all(c == "\n" or " " <= c <= "~" for c in text), name)
+            self.assertLessEqual(text.count("\n"), 399, name)
+            self.assertLessEqual(max(len(line) for line in text.split("\n")), 120, name)
+
+    def test_functions_are_small(self):
+        for name, tree in trees():
+            for node in ast.walk(tree):
+                if isinstance(node, ast.FunctionDef):
+                    self.assertLessEqual(node.end_lineno - node.lineno + 1, 40, (name, node.name))
+                    self.assertEqual(node.decorator_list, [], (name, node.name))
+
+    def test_imports(self):
+        imports = {}
+        for name, tree in trees():
+            imports[name] = []
+            for node in ast.walk(tree):
+                self.assertNotIsInstance(node, ast.Import, name)
+                if isinstance(node, ast.ImportFrom):
+                    self.assertIn(node, tree.body, name)
+                    self.assertEqual(node.level, 0, name)
+                    package, _, module = node.module.partition(".")
+                    self.assertEqual(package, "placedanyhow", name)
+                    defined = {n.name for n in ast.parse(read(module + ".py")).body if hasattr(n, "name")}
+                    self.assertLessEqual({alias.name for alias in node.names}, defined, name)
+                    imports[name].append(module + ".py")
+        for name in imports:
+            self.assertNotIn(name, self.reached(imports, imports[name]), name)
+
+    def reached(self, imports, names):
+        found = list(names)
+        for name in found:
+            found.extend(other for other in imports[name] if other not in found)
+        return found
+
+    def test_module_level(self):
+        for name, tree in trees():
+            bound, functions = [], []
+            for index, node in enumerate(tree.body):
+                if isinstance(node, ast.Expr):
+                    self.assertEqual(index, 0, name)
+                elif isinstance(node, ast.ImportFrom):
+                    bound.extend(alias.name for alias in node.names)
+                elif isinstance(node, ast.Assign):
+                    self.assertEqual(len(node.targets), 1, name)
+                    self.assertIsInstance(node.targets[0], ast.Name, name)
+                    self.assertTrue(is_plain(node.value, functions), (name, node.lineno))
+                    bound.append(node.targets[0].id)
+                else:
+                    self.assertIsInstance(node, (ast.FunctionDef, ast.ClassDef), name)
+                    bound.append(node.name)
+                    functions.append(node.name)
+            self.assertEqual(len(bound), len(set(bound)), name)
+
+    def test_nodes(self):
+        for name, tree in trees():
+            for node in ast.walk(tree):
+                self.assertNotIsInstance(node, BARRED_NODES, (name, getattr(node, "lineno", 0)))
+                if isinstance(node, ast.Constant):
+                    self.assertNotIsInstance(node.value, (float, complex, bytes), name)
+                    if isinstance(node.value, str):
+                        self.assertNotIn("%", node.value, (name, node.lineno))
+                if isinstance(node, ast.Compare):
+                    for operator, right in zip(node.ops, node.comparators):
+                        if isinstance(operator, (ast.Is, ast.IsNot)):
+                            self.assertIn(getattr(right, "value", 0), (None, True, False), name)
+
+    def test_names(self):
+        for name, tree in trees():
+            top = {n.name for n in tree.body if isinstance(n, ast.ClassDef)}
+            top |= {a.name for n in tree.body if isinstance(n, ast.ImportFrom) for a in n.names}
+            for node in ast.walk(tree):
+                stored = []
+                if isinstance(node, ast.Name) and isinstance(node.ctx, ast.Store):
+                    stored = [node.id]
+                elif isinstance(node, ast.arg):
+                    stored = [node.arg]
+                elif isinstance(node, (ast.FunctionDef, ast.ClassDef)):
+                    stored = [node.name]
+                elif isinstance(node, ast.Attribute):
+                    self.assertNotIn(node.attr, BARRED_WORDS, (name, node.lineno))
+                for word in stored:
+                    self.assertNotIn(word, BUILTINS + BARRED_WORDS, (name, word))
+                    if not isinstance(node, ast.ClassDef):
+                        self.assertNotIn(word, top, (name, node.lineno, word))
+
+    def test_calls(self):
+        methods = set(METHODS)
+        for _, tree in trees():
+            for node in ast.walk(tree):
+                if isinstance(node, ast.ClassDef):
+                    methods |= {part.name for part in node.body if isinstance(part, ast.FunctionDef)}
+        for name, tree in trees():
+            known = set(BUILTINS)
+            for node in ast.walk(tree):
+                if isinstance(node, (ast.FunctionDef, ast.ClassDef)):
+                    known.add(node.name)
+                if isinstance(node, ast.FunctionDef):
+                    known |= {argument.arg for argument in node.args.args}
+                if isinstance(node, ast.alias):
+                    known.add(node.name)
+                if isinstance(node, ast.Name) and isinstance(node.ctx, ast.Store):
+                    known.add(node.id)
+            for node in ast.walk(tree):
+                if isinstance(node, ast.Call) and isinstance(node.func, ast.Name):
+                    self.assertIn(node.func.id, known, (name, node.lineno))
+                elif isinstance(node, ast.Call):
+                    self.assertIsInstance(node.func, ast.Attribute, (name, node.lineno))
+                    self.assertIn(node.func.attr, methods, (name, node.lineno))
+
+
+INTERFACE = {
+    "errors": ("PlacedError", "TextError", "RuleError", "PlanError", "CodeError", "CommandError"),
+    "tokens": ("tokenize", "is_reserved"),
+    "parsing": ("parse_program",),
+    "writing": ("write_program", "write_expression"),
+    "names": ("expand",),
+    "words": ("value", "place"),
+    "usage": ("touched", "check_usage", "threads_of"),
+    "work": ("work", "measure", "prepare"),
+}
+
+ARGUMENTS = {
+    "tokenize": ["text"], "is_reserved": ["name"], "parse_program": ["text"],
+    "write_program": ["program"], "write_expression": ["e"], "expand": ["program"],
+    "value": ["e", "cells"], "place": ["target", "cells"], "touched": ["s"],
+    "check_usage": ["core"], "threads_of": ["core"], "work": ["s"], "measure": ["state"],
+    "prepare": ["text"],
+}
+
+
+class InterfaceTest(unittest.TestCase):
+    def test_each_name_is_defined_in_its_file(self):
+        for module, names in INTERFACE.items():
+            defined = {}
+            for node in ast.parse(read(module + ".py")).body:
+                if isinstance(node, (ast.FunctionDef, ast.ClassDef)):
+                    defined[node.name] = node
+            for name in names:
+                self.assertIn(name, defined)
+                if name in ARGUMENTS:
+                    arguments = [argument.arg for argument in defined[name].args.args]
+                    self.assertEqual(arguments, ARGUMENTS[name], name)
+
+
+if __name__ == "__main__":
+    unittest.main()
