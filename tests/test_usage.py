@@ -6,27 +6,8 @@ import unittest
 from placedanyhow.names import expand
 from placedanyhow.parsing import parse_program
 from placedanyhow.usage import check_usage, threads_of, touched
+from tests.parts import NOTHING, SKIP, STOP, at, cell, num, seq
 from tests.support import frozen, is_plain, outcome, prepared, rule_error
-
-SKIP = ("skip",)
-STOP = ("stop",)
-NOTHING = ("seq", [])
-
-
-def num(n):
-    return ("num", n)
-
-
-def cell(k):
-    return ("cell", k)
-
-
-def at(first, size, e):
-    return ("at", first, size, e)
-
-
-def seq(*parts):
-    return ("seq", list(parts))
 
 
 def par(*parts):
