@@ -181,6 +181,15 @@ INTERFACE = {
     "words": ("value", "place"),
     "usage": ("touched", "check_usage", "threads_of"),
     "work": ("work", "measure", "prepare"),
+    "states": ("initial", "ends"),
+    "redexes": ("redexes", "perform", "event"),
+    "meaning": ("run", "run_from", "steps"),
+    "waits": ("waits", "chain", "explains"),
+    "threads": ("threads",),
+    "compiling": ("compile_thread",),
+    "coding": ("encode", "decode"),
+    "graph": ("check_network", "distances", "next_hops"),
+    "placement": ("Plan", "make_plan", "spread"),
 }
 
 ARGUMENTS = {
@@ -188,7 +197,16 @@ ARGUMENTS = {
     "write_program": ["program"], "write_expression": ["e"], "expand": ["program"],
     "value": ["e", "cells"], "place": ["target", "cells"], "touched": ["s"],
     "check_usage": ["core"], "threads_of": ["core"], "work": ["s"], "measure": ["state"],
-    "prepare": ["text"],
+    "prepare": ["text"], "initial": ["core"], "ends": ["state"],
+    "redexes": ["core", "inputs", "state"], "perform": ["core", "inputs", "state", "redex"],
+    "event": ["core", "inputs", "state", "redex"], "run": ["core", "inputs", "choices"],
+    "run_from": ["core", "inputs", "state", "choices"], "steps": ["core", "inputs", "choices"],
+    "waits": ["core", "state"], "chain": ["core", "state", "t"],
+    "explains": ["core", "state", "threads", "end"], "threads": ["core"],
+    "compile_thread": ["thread"], "encode": ["instruction"], "decode": ["words"],
+    "check_network": ["processors", "links"], "distances": ["processors", "links", "goal"],
+    "next_hops": ["processors", "links"], "make_plan": ["core", "network", "places", "homes"],
+    "spread": ["many", "processors"],
 }
 
 
