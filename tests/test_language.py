@@ -190,6 +190,10 @@ INTERFACE = {
     "coding": ("encode", "decode"),
     "graph": ("check_network", "distances", "next_hops"),
     "placement": ("Plan", "make_plan", "spread"),
+    "images": ("build_images", "read_image"),
+    "links": ("Links",),
+    "loader": ("packets", "Memory"),
+    "workspaces": ("Workspace",),
 }
 
 ARGUMENTS = {
@@ -206,22 +210,73 @@ ARGUMENTS = {
     "compile_thread": ["thread"], "encode": ["instruction"], "decode": ["words"],
     "check_network": ["processors", "links"], "distances": ["processors", "links", "goal"],
     "next_hops": ["processors", "links"], "make_plan": ["core", "network", "places", "homes"],
-    "spread": ["many", "processors"],
+    "spread": ["many", "processors"], "build_images": ["core", "plan"], "read_image": ["words"],
+    "packets": ["target", "image"],
 }
+
+# The arguments of the methods of each class, behind "self".
+METHODS_OF = {
+    "Links": {"__init__": ["delays"], "send": ["tick", "source", "goal", "message"], "due": ["tick"], "empty": []},
+    "Memory": {"__init__": [], "load": ["first", "words", "total"]},
+    "Workspace": {
+        "__init__": ["number", "thread", "values"], "cell": ["number"], "store": ["number", "word"], "advance": [],
+        "step": ["instruction"],
+    },
+}
+# The arguments that are passed by keyword, by class and method.
+KEYWORDS_OF = {}
+FIELDS_OF = {
+    "Plan": ["processors", "links", "threads", "homes", "hops"],
+    "Memory": ["words"],
+    "Workspace": ["number", "parent", "takes", "gives", "code", "cells", "stack", "at", "state"],
+}
+
+
+def defined_in(nodes):
+    """A dict from the names of the functions and classes among nodes to their nodes."""
+    return {node.name: node for node in nodes if isinstance(node, (ast.FunctionDef, ast.ClassDef))}
+
+
+def assigned_to_self(function):
+    """The attributes that a method assigns to its own object."""
+    found = []
+    for node in ast.walk(function):
+        if isinstance(node, ast.Attribute) and isinstance(node.ctx, ast.Store) and node.value.id == "self":
+            found.append(node.attr)
+    return found
 
 
 class InterfaceTest(unittest.TestCase):
     def test_each_name_is_defined_in_its_file(self):
         for module, names in INTERFACE.items():
-            defined = {}
-            for node in ast.parse(read(module + ".py")).body:
-                if isinstance(node, (ast.FunctionDef, ast.ClassDef)):
-                    defined[node.name] = node
+            defined = defined_in(ast.parse(read(module + ".py")).body)
             for name in names:
                 self.assertIn(name, defined)
                 if name in ARGUMENTS:
                     arguments = [argument.arg for argument in defined[name].args.args]
                     self.assertEqual(arguments, ARGUMENTS[name], name)
+
+    def classes(self):
+        """The nodes of the classes of the interface, by their names."""
+        found = {}
+        for module in INTERFACE:
+            for name, node in defined_in(ast.parse(read(module + ".py")).body).items():
+                if isinstance(node, ast.ClassDef):
+                    found[name] = node
+        return found
+
+    def test_each_method_is_defined_in_its_class(self):
+        for name, methods in METHODS_OF.items():
+            defined = defined_in(self.classes()[name].body)
+            for method, arguments in methods.items():
+                taken = defined[method].args
+                self.assertEqual([argument.arg for argument in taken.args], ["self"] + arguments, (name, method))
+                self.assertEqual([argument.arg for argument in taken.kwonlyargs], KEYWORDS_OF.get((name, method), []))
+
+    def test_each_field_is_set_when_an_object_is_created(self):
+        for name, fields in FIELDS_OF.items():
+            creation = defined_in(self.classes()[name].body)["__init__"]
+            self.assertLessEqual(set(fields), set(assigned_to_self(creation)), name)
 
 
 if __name__ == "__main__":
