@@ -20,7 +20,7 @@ METHODS = (
 BARRED_NODES = (
     ast.Global, ast.AsyncFunctionDef, ast.AsyncFor, ast.AsyncWith, ast.Await, ast.Set, ast.SetComp,
     ast.GeneratorExp, ast.Div, ast.Yield, ast.YieldFrom, ast.NamedExpr, ast.Starred, ast.Lambda,
-    ast.Nonlocal, ast.With, ast.Match, ast.Try,
+    ast.Nonlocal, ast.With, ast.Match,
 )
 BARRED_WORDS = (
     "register mro elements open input law version_info attrgetter builtins compile dir eval exec "
@@ -51,6 +51,20 @@ def is_plain(node, functions):
     if isinstance(node, ast.Dict):
         return all(is_plain(part, functions) for part in node.keys + node.values)
     return isinstance(node, ast.Name) and node.id in functions
+
+
+def defined_in(nodes):
+    """A dict from the names of the functions and classes among nodes to their nodes."""
+    return {node.name: node for node in nodes if isinstance(node, (ast.FunctionDef, ast.ClassDef))}
+
+
+def assigned_to_self(function):
+    """The attributes that a method assigns to its own object."""
+    found = []
+    for node in ast.walk(function):
+        if isinstance(node, ast.Attribute) and isinstance(node.ctx, ast.Store) and getattr(node.value, "id", "") == "self":
+            found.append(node.attr)
+    return found
 
 
 class LanguageTest(unittest.TestCase):
@@ -128,6 +142,30 @@ class LanguageTest(unittest.TestCase):
                         if isinstance(operator, (ast.Is, ast.IsNot)):
                             self.assertIn(getattr(right, "value", 0), (None, True, False), name)
 
+    def test_errors_that_are_caught(self):
+        """Only own errors are caught, each by its name."""
+        own = set(defined_in(ast.parse(read("errors.py")).body))
+        for name, tree in trees():
+            for node in ast.walk(tree):
+                if isinstance(node, ast.Try):
+                    self.assertEqual(node.finalbody, [], (name, node.lineno))
+                if isinstance(node, ast.ExceptHandler):
+                    self.assertIn(getattr(node.type, "id", None), own, (name, node.lineno))
+                if isinstance(node, ast.FunctionDef):
+                    caught = [part.name for part in ast.walk(node) if isinstance(part, ast.ExceptHandler)]
+                    self.assertEqual(len(caught), len(set(caught)), (name, node.lineno))
+
+    def test_methods_and_attributes(self):
+        """No name is a method and an attribute of one class, and none is that of a method of builtin values."""
+        builtin = set(METHODS) | {"encode", "decode", "sort", "args", "format", "hex"}
+        for name, tree in trees():
+            for node in ast.walk(tree):
+                if isinstance(node, ast.ClassDef):
+                    methods = set(defined_in(node.body))
+                    attributes = {field for part in defined_in(node.body).values() for field in assigned_to_self(part)}
+                    self.assertEqual(methods & attributes, set(), (name, node.name))
+                    self.assertEqual((methods | attributes) & builtin, set(), (name, node.name))
+
     def test_names(self):
         for name, tree in trees():
             top = {n.name for n in tree.body if isinstance(n, ast.ClassDef)}
@@ -194,6 +232,11 @@ INTERFACE = {
     "links": ("Links",),
     "loader": ("packets", "Memory"),
     "workspaces": ("Workspace",),
+    "homes": ("Home", "Homes"),
+    "processor": ("Processor",),
+    "machine": ("Machine",),
+    "replay": ("follow", "explains"),
+    "script": ("run_script",),
 }
 
 ARGUMENTS = {
@@ -205,8 +248,10 @@ ARGUMENTS = {
     "redexes": ["core", "inputs", "state"], "perform": ["core", "inputs", "state", "redex"],
     "event": ["core", "inputs", "state", "redex"], "run": ["core", "inputs", "choices"],
     "run_from": ["core", "inputs", "state", "choices"], "steps": ["core", "inputs", "choices"],
-    "waits": ["core", "state"], "chain": ["core", "state", "t"],
-    "explains": ["core", "state", "threads", "end"], "threads": ["core"],
+    "waits": ["core", "state"], "chain": ["core", "state", "t"], "threads": ["core"],
+    "waits.explains": ["core", "state", "threads", "end"],
+    "replay.explains": ["core", "inputs", "events", "outputs", "told"],
+    "follow": ["core", "inputs", "events"], "run_script": ["script"],
     "compile_thread": ["thread"], "encode": ["instruction"], "decode": ["words"],
     "check_network": ["processors", "links"], "distances": ["processors", "links", "goal"],
     "next_hops": ["processors", "links"], "make_plan": ["core", "network", "places", "homes"],
@@ -222,28 +267,26 @@ METHODS_OF = {
         "__init__": ["number", "thread", "values"], "cell": ["number"], "store": ["number", "word"], "advance": [],
         "step": ["instruction"],
     },
+    "Home": {"__init__": ["kind", "inputs"]},
+    "Homes": {"__init__": ["rows", "log"], "handle": ["message"]},
+    "Processor": {
+        "__init__": ["at", "plan", "homes", "turn"], "receive": ["message"], "tick": [], "sent": [],
+    },
+    "Machine": {
+        "__init__": ["core", "plan", "inputs"], "advance": [], "run": ["ticks"], "quiet": [], "outputs": [], "ends": [],
+        "cells": [], "memory": ["at"],
+    },
 }
 # The arguments that are passed by keyword, by class and method.
-KEYWORDS_OF = {}
+KEYWORDS_OF = {("Machine", "__init__"): ["delays", "turn"]}
 FIELDS_OF = {
     "Plan": ["processors", "links", "threads", "homes", "hops"],
     "Memory": ["words"],
     "Workspace": ["number", "parent", "takes", "gives", "code", "cells", "stack", "at", "state"],
+    "Home": ["kind", "outputs"],
+    "Processor": ["work", "row"],
+    "Machine": ["now", "log"],
 }
-
-
-def defined_in(nodes):
-    """A dict from the names of the functions and classes among nodes to their nodes."""
-    return {node.name: node for node in nodes if isinstance(node, (ast.FunctionDef, ast.ClassDef))}
-
-
-def assigned_to_self(function):
-    """The attributes that a method assigns to its own object."""
-    found = []
-    for node in ast.walk(function):
-        if isinstance(node, ast.Attribute) and isinstance(node.ctx, ast.Store) and node.value.id == "self":
-            found.append(node.attr)
-    return found
 
 
 class InterfaceTest(unittest.TestCase):
@@ -252,9 +295,10 @@ class InterfaceTest(unittest.TestCase):
             defined = defined_in(ast.parse(read(module + ".py")).body)
             for name in names:
                 self.assertIn(name, defined)
-                if name in ARGUMENTS:
+                if isinstance(defined[name], ast.FunctionDef):
                     arguments = [argument.arg for argument in defined[name].args.args]
-                    self.assertEqual(arguments, ARGUMENTS[name], name)
+                    expected = ARGUMENTS.get(f"{module}.{name}") or ARGUMENTS[name]
+                    self.assertEqual(arguments, expected, name)
 
     def classes(self):
         """The nodes of the classes of the interface, by their names."""
