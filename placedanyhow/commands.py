@@ -5,22 +5,25 @@ from placedanyhow.tokens import is_number
 
 END_OF_TEXT = "."
 
-# For each command whose arguments are all numbers: the least and the greatest number of arguments,
-# None if there may be any number of them, and the least and the greatest number among them.
-FORMS = {
-    "input": (1, None, 0, 65535),
-    "places": (1, None, 0, 65535),
-    "homes": (1, None, 0, 65535),
-    "delays": (1, None, 1, 65535),
-    "turn": (1, 1, 1, 65535),
-    "run": (0, None, 0, 65535),
-    "machine": (1, 1, 0, 4096),
-    "outputs": (0, 0, 0, 0),
-    "ends": (0, 0, 0, 0),
-    "cells": (0, 0, 0, 0),
-    "events": (0, 0, 0, 0),
-    "chains": (0, 0, 0, 0),
+# The fewest and the most arguments of each command whose arguments are all numbers; None if there
+# may be any number of them.
+COUNTS = {
+    "input": (1, None),
+    "places": (1, None),
+    "homes": (1, None),
+    "delays": (1, None),
+    "turn": (1, 1),
+    "run": (0, None),
+    "machine": (1, 1),
+    "outputs": (0, 0),
+    "ends": (0, 0),
+    "cells": (0, 0),
+    "events": (0, 0),
+    "chains": (0, 0),
 }
+# The least and the greatest argument of commands that do not take every number.
+LEAST = {"delays": 1, "turn": 1}
+GREATEST = {"machine": 4096}
 
 
 def read_commands(script):
@@ -57,14 +60,14 @@ def read_command(words, line):
     name = words[0]
     if name == "network":
         return (name, read_network(words[1:], line))
-    if name not in FORMS:
+    if name not in COUNTS:
         raise CommandError(line)
-    fewest, most, least, greatest = FORMS[name]
+    fewest, most = COUNTS[name]
     numbers = [read_number(word, line) for word in words[1:]]
     if len(numbers) < fewest or most is not None and len(numbers) > most:
         raise CommandError(line)
     for number in numbers:
-        if number < least or number > greatest:
+        if number < LEAST.get(name, 0) or number > GREATEST.get(name, number):
             raise CommandError(line)
     return (name, numbers)
 

@@ -79,9 +79,7 @@ class Processor:
         if 0 in self.threads:
             takes = self.threads[0][2]
             self.start(0, [0] * len(takes))
-        early = self.early
-        self.early = []
-        for message in early:
+        for message in self.early:
             self.handle(message)
 
     def handle(self, message):

@@ -310,6 +310,17 @@ class EndTest(ExchangeTest):
             ticks(processor, 2)
             self.sends(processor)
 
+    def test_what_is_sent_may_change_later(self):
+        processor = self.started([("end",)], [3, 7], [10, 20], gives=[3])
+        for _ in range(2):
+            processor.tick()
+            found = processor.sent()
+            self.assertEqual(found, [(1, ("ended", 0, [3], [10]))])
+            found[0][1][2].clear()
+            found[0][1][3].clear()
+            self.assertEqual((processor.work[1].gives, processor.work[1].cells), ([3], [10, 20]))
+            self.receives(processor, ("start", 1, [10, 20]))
+
     def test_no_gives(self):
         processor = self.started([("end",)], [3], [10], parent=5)
         processor.tick()

@@ -108,6 +108,12 @@ class InnerTest(HomeTest):
         self.handles(("ask", 2, 5), (5, ("offered", 2, 5)))
         self.logged()
 
+    def test_an_accept_without_an_offer(self):
+        self.handles(("ask", 2, 5))
+        self.handles(("accept", 2, 5))
+        self.logged()
+        self.handles(("offer", 2, 9, 4), (5, ("offered", 2, 5)))
+
     def test_other_threads(self):
         for giver, asker in ((1, 2), (2, 1), (7, 3)):
             self.handles(("ask", 3, asker))

@@ -211,6 +211,20 @@ def compare(test, core, plan, inputs, delays, turn):
 
 
 class SimulationTest(unittest.TestCase):
+    def test_rows_rings_and_stars(self):
+        core = (
+            "core", 2, ["inner", "in", "out"],
+            par((1, seq(take(1, cell(0)), give(0, cell(0)))), (2, seq(take(0, cell(1)), give(2, cell(1)))), (3, STOP)),
+        )
+        rng = random.Random(125)
+        networks = [row(k) for k in range(1, 7)] + [ring(k) for k in range(3, 7)] + [star(k) for k in range(2, 7)]
+        for network in networks:
+            for delays in ([], [3], [2, 1, 4], draw_delays(rng)):
+                places = [rng.randrange(network[0]) for _ in range(4)]
+                plan = make_plan(core, network, places, [rng.randrange(network[0]), 0, 0])
+                machine = compare(self, core, plan, [[7]], delays, rng.randrange(1, 4))
+                self.assertEqual((machine.outputs(), machine.cells()), ([[7]], [7, 7]))
+
     def test_drawn_cores(self):
         rng = random.Random(122)
         ticks, events = 0, 0

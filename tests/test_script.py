@@ -299,6 +299,17 @@ class MachineTest(ScriptTest):
     def test_the_usual_machine(self):
         self.check_machine([])
 
+    def test_the_usual_turn(self):
+        text = (
+            "program p out b, g; main { together { "
+            "{ word x; x = x + 1; x = x + 1; give 1 to b; x = x + 1; x = x + 1; give 2 to b; give 3 to b; } "
+            "{ word y; give 4 to g; y = y + 1; y = y + 1; give 5 to g; give 6 to g; } } }"
+        )
+        plain = loaded(text, "machine 4096", "events")
+        self.assertEqual(loaded(text, "turn 4", "machine 4096", "events"), plain)
+        for turn in (1, 2, 3, 5, 6, 7, 8, 11):
+            self.assertNotEqual(loaded(text, f"turn {turn}", "machine 4096", "events"), plain)
+
     def test_networks(self):
         self.check_machine(["network 1"])
         self.check_machine(["network 2 0-1"], (2, [(0, 1)]))
