@@ -104,7 +104,8 @@ class LoadingTest(unittest.TestCase):
 
     def test_a_ring(self):
         # Processor 2 is reached over processor 1, not over 3, and both are as near.
-        self.check(ring(4), [2], [1, 2, 2, 9, 1, 1], [[1, 1, 0, 0], [1, 1, 0, 0], [1, 1, 14, 0]] + [[1, 1, 14, 0]] * 5 + [[1, 1, 14, 1]])
+        expected = [[1, 1, 0, 0], [1, 1, 0, 0]] + [[1, 1, 14, 0]] * 6 + [[1, 1, 14, 1]]
+        self.check(ring(4), [2], [1, 2, 2, 9, 1, 1], expected)
 
     def test_a_star(self):
         self.check(star(4), [3], [2, 4, 1, 6], [
@@ -242,8 +243,9 @@ class QuietTest(unittest.TestCase):
         return frozen((machine.now, machine.log, machine.outputs(), machine.ends(), machine.cells(), machine.memory(0)))
 
     def test_a_quiet_machine_does_not_change(self):
-        for core in (MEETING, ("core", 1, [], STOP), ("core", 1, ["inner"], give(0, num(1))), ("core", 0, [], put(cell(0), FAULT))):
-            machine = machine_of(("core", 1, core[2], core[3]), (2, [(0, 1)]), delays=[3])
+        stuck = ("core", 1, ["inner"], give(0, num(1)))
+        for core in (MEETING, stuck, ("core", 1, [], STOP), ("core", 1, [], put(cell(0), FAULT))):
+            machine = machine_of(core, (2, [(0, 1)]), delays=[3])
             self.assertIs(machine.run(100), True)
             before = self.seen(machine)
             for _ in range(3):

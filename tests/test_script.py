@@ -8,7 +8,6 @@ from placedanyhow.machine import Machine
 from placedanyhow.meaning import run, steps
 from placedanyhow.placement import make_plan, spread
 from placedanyhow.script import run_script
-from placedanyhow.states import ends
 from placedanyhow.usage import threads_of
 from placedanyhow.waits import chain, waits
 from placedanyhow.work import prepare
